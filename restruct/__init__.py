@@ -1,0 +1,1 @@
+"""restruct: programs with jumps and without, and the same runs shown by papers."""
