@@ -6,6 +6,7 @@ LETTERS = "abcdefghijklmnopqrstuvwxyz"
 DIGITS = "0123456789"
 SYMBOLS = "(){}:=+-*<"
 KEYWORDS = ("entry", "goto", "else", "if", "print", "block", "loop", "break", "continue", "exit")
+EXIT = "exit"
 MOST_LETTERS = 8
 LEAST_COPY = 2
 MOST_COPY = 99
@@ -28,6 +29,11 @@ def signs_of(line):
 def is_name(word):
     """Tells whether a word is a name: without a dot, and no keyword."""
     return "." not in word and word not in KEYWORDS
+
+
+def is_label(word):
+    """Tells whether a word is a label: a name, behind which a dot and a number may stand."""
+    return is_name(word.partition(".")[0])
 
 
 def _sign_from(line, start):
