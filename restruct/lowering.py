@@ -15,7 +15,7 @@ MOST_NODES = 20
 
 def lowered(body):
     """The pair of the entry and the list of the nodes of a body, in the order of the text."""
-    _check_labels(_labels_of(body))
+    check_labels(_labels_of(body))
     # To exit is to leave the whole body; no block or loop can have this name, a keyword.
     whole = ("block", 0, _size_of(body))
     steps = _steps_of(body, 0, {EXIT: whole})
@@ -23,6 +23,13 @@ def lowered(body):
     nodes = _nodes_of(steps)
     _check_nodes(entry, nodes)
     return entry, nodes
+
+
+def check_labels(labels):
+    """Refuses labels of which one is that of a later node."""
+    for at, label in enumerate(labels):
+        if label in labels[at + 1:]:
+            raise SourceFault("duplicate label", label)
 
 
 def _labels_of(body):
@@ -34,12 +41,6 @@ def _labels_of(body):
         for inner in bodies_of(statement):
             labels.extend(_labels_of(inner))
     return labels
-
-
-def _check_labels(labels):
-    for at, label in enumerate(labels):
-        if label in labels[at + 1:]:
-            raise SourceFault("duplicate label", label)
 
 
 def _check_nodes(entry, nodes):

@@ -2,7 +2,7 @@
 
 from restruct.deeds import check_end, deed_text, place_behind, read_deed, read_word
 from restruct.errors import BadLine
-from restruct.signs import EXIT, is_label, signs_of
+from restruct.signs import ENTRY, EXIT, is_label, signs_of
 
 GOTO = ("word", "goto")
 ELSE = ("word", "else")
@@ -12,13 +12,24 @@ def parse_node(line):
     """The node of a line in the form with jumps."""
     signs = signs_of(line)
     label, deed, at = read_deed(signs)
-    target, at = read_target(signs, place_behind(signs, at, GOTO))
+    target, at = _read_target(signs, place_behind(signs, at, GOTO))
     targets = (target,)
     if deed[0] == "if":
-        other, at = read_target(signs, place_behind(signs, at, ELSE))
+        other, at = _read_target(signs, place_behind(signs, at, ELSE))
         targets = (target, other)
     check_end(signs, at)
     return label, deed, targets
+
+
+def parse_entry(line):
+    """The target that the line of an entry names."""
+    signs = signs_of(line)
+    return _only_target(signs, place_behind(signs, 0, ("word", ENTRY)))
+
+
+def parse_target(text):
+    """The target, a label or the exit, that a text is."""
+    return _only_target(signs_of(text), 0)
 
 
 def node_text(node):
@@ -27,7 +38,14 @@ def node_text(node):
     return f"{label}: {deed_text(deed)} goto " + " else ".join(targets)
 
 
-def read_target(signs, at):
+def _only_target(signs, at):
+    """The target that stands at a place and ends its line."""
+    target, at = _read_target(signs, at)
+    check_end(signs, at)
+    return target
+
+
+def _read_target(signs, at):
     """The target, a label or the exit, that stands at a place, and the place behind it."""
     word, at = read_word(signs, at)
     if word != EXIT and not is_label(word):

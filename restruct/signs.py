@@ -6,6 +6,7 @@ LETTERS = "abcdefghijklmnopqrstuvwxyz"
 DIGITS = "0123456789"
 SYMBOLS = "(){}:=+-*<"
 KEYWORDS = ("entry", "goto", "else", "if", "print", "block", "loop", "break", "continue", "exit")
+ENTRY = "entry"
 EXIT = "exit"
 MOST_LETTERS = 8
 LEAST_COPY = 2
