@@ -212,7 +212,8 @@ class Forms(ProgramTest):
 
     def test_something_else_behind(self):
         for line in ("entry2", "entry 2", "entry2 a", "entry:", "entry: a", "entry: x = 1", "entry", "entry ",
-                     "entry=1", "entry{", "entry(a)", "entry a b", "entry goto", "entry A", "entryA", "entry_", "entry-a"):
+                     "entry=1", "entry{", "entry(a)", "entry a b", "entry goto", "entry A", "entryA", "entry_",
+                     "entry-a"):
             self.assert_syntax(line, 1)
             self.assert_syntax(f"; {line}; a: x = 1 goto exit", 2)
             self.assert_syntax(f"{line}; a: x = 1", 1)
