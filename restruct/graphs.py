@@ -105,7 +105,8 @@ def _found_without(graph, barred):
     waiting = [(entry, None)]
     while waiting:
         further = []
-        for label, source in waiting:
+        # A copy is walked: behind the loop, the list that it extends takes the name of the walked one.
+        for label, source in list(waiting):
             if label not in (EXIT, barred) and label not in ahead:
                 ahead[label] = source
                 further.extend([(target, label) for target in targets[label]])
